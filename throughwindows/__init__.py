@@ -1,0 +1,1 @@
+"""Through windows: pictures whose pixels are looked at with those around them."""
