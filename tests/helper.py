@@ -14,16 +14,16 @@ LARGEST = 2 ** 64 - 1
 SIZES = [(1, 1), (1, 16), (16, 1), (2, 1), (2, 2), (3, 2), (5, 4), (16, 16)]
 
 
-def row(numbers):
+def counted(numbers):
     return [len(numbers)] + list(numbers)
 
 
 def begin(w, h, colours):
-    return [1, w, h] + row(colours)
+    return [1, w, h] + counted(colours)
 
 
 def piece(w, h, colours):
-    return [2, w, h] + row(colours)
+    return [2, w, h] + counted(colours)
 
 
 def mean(sort, r):
@@ -35,11 +35,29 @@ def rank(sort, r, p, q):
 
 
 def weigh(sort, divisor, added, taken, plus, minus):
-    return [5, sort, divisor, added, taken] + row(plus) + row(minus)
+    return [5, sort, divisor, added, taken] + counted(plus) + counted(minus)
+
+
+def part(v):
+    return [8, v]
+
+
+def shift(r):
+    return [10, r]
+
+
+def row(y):
+    return [11, y]
+
+
+def cut(x, y, w, h):
+    return [13, x, y, w, h]
 
 
 EVEN = [6]
 PARTING = [7]
+FIND = [9]
+SPREAD = [12]
 
 
 def taken_apart(told):
@@ -69,49 +87,17 @@ def last(*calls):
     return ask(*calls)[-1]
 
 
-# Seeing the picture through calls 1 to 7 alone.
-
-def move(dx, dy):
-    """The call that moves all pixels by up to 2 each way; what leaves the picture is lost."""
-    plus = [0] * 25
-    plus[(2 - dy) * 5 + (2 - dx)] = 1
-    return weigh(0, 1, 0, 0, plus, [0] * 25)
-
-
-def moves(dx, dy):
-    calls = []
-    while dx or dy:
-        step_x = max(-2, min(2, dx))
-        step_y = max(-2, min(2, dy))
-        calls.append(move(step_x, step_y))
-        dx -= step_x
-        dy -= step_y
-    return calls
-
-
-def lone_colour(calls):
-    """The colour of a picture of one pixel: as much may be taken from it till black is as it is."""
-    for v in range(256):
-        black = weigh(0, 1, 0, v, [1], [0])
-        if last(*calls, black, weigh(0, 1, 0, 0, [0], [0])) == [0]:
-            return v
-    raise ValueError("a colour above 255")
-
-
-def colour_seen(calls, w, h, x, y):
-    """The colour at (x, y) after the calls: all others are moved out, then the parts are looked at."""
-    if w * h == 1:
-        return lone_colour(calls)
-    out = moves(w - 1 - x, h - 1 - y) + moves(1 - w, 1 - h)
-    told = last(*calls, *out, PARTING)
-    if told == [0, 0, 1]:
-        return 0
-    return math.isqrt(told[1]) // (w * h - 1)
+def rows_seen(calls, h):
+    """The rows of the picture after the calls."""
+    return [told[1:] for told in ask(*calls, *[row(y) for y in range(h)])[len(calls):]]
 
 
 def colours_seen(calls, w, h):
-    """All colours after the calls, in order."""
-    return [colour_seen(calls, w, h, x, y) for y in range(h) for x in range(w)]
+    """All colours after the calls, in order; rows of another length or of another number are an error."""
+    seen = rows_seen(calls, h)
+    if any(len(colours) != w for colours in seen) or last(*calls, row(h)) != [-1]:
+        raise ValueError(f"not {w} by {h} pixels: {seen}")
+    return [colour for colours in seen for colour in colours]
 
 
 # The second way.
@@ -198,6 +184,61 @@ def parted(colours):
     far = [Fraction(*apart_at(colours, v)) for v in range(256)]
     v = far.index(max(far))
     return [v, *apart_at(colours, v)]
+
+
+def by_place(w, h, colours, at_x=0, at_y=0):
+    """Each pixel's colour by its place, the first one lying on (at_x, at_y)."""
+    return {(at_x + x, at_y + y): colours[y * w + x] for y in range(h) for x in range(w)}
+
+
+def laid_on(picture, kept, x, y):
+    """The squares together and how many pixels have both; a picture here is (w, h, colours)."""
+    under = by_place(*picture)
+    over = by_place(*kept, x, y)
+    both = [place for place in over if place in under]
+    return sum((under[place] - over[place]) ** 2 for place in both), len(both)
+
+
+def places_within(picture, kept):
+    """The places where the piece lies wholly within the picture, row by row."""
+    places = [(x, y) for y in range(picture[1]) for x in range(picture[0])]
+    return [place for place in places if laid_on(picture, kept, *place)[1] == len(kept[2])]
+
+
+def found(picture, kept):
+    places = places_within(picture, kept)
+    if not places:
+        return [-3]
+    badly = [laid_on(picture, kept, *place)[0] for place in places]
+    return [min(badly), *places[badly.index(min(badly))]]
+
+
+def shifted(picture, kept, r):
+    fits = []
+    for dx in range(-r, r + 1):
+        for dy in range(-r, r + 1):
+            squares, count = laid_on(picture, kept, dx, dy)
+            if count:
+                fits.append((Fraction(squares, count), dy, dx, squares, count))
+    best = min(fits)
+    return [0, best[2], best[1], best[3], best[4]]
+
+
+def spread_out(colours):
+    told = [len(set(colours))]
+    for colour in range(256):
+        if colour in colours:
+            told += [colour, len([1 for other in colours if other == colour])]
+    return told
+
+
+def cut_from(picture, x, y, w, h):
+    """The part of the picture as a picture; None if it is refused."""
+    pixels = by_place(*picture)
+    corners = [(x, y), (x + w - 1, y + h - 1)]
+    if w < 1 or h < 1 or any(corner not in pixels for corner in corners):
+        return None
+    return w, h, [pixels[at_x, at_y] for at_y in range(y, y + h) for at_x in range(x, x + w)]
 
 
 def changed(before, after):

@@ -2,9 +2,7 @@
 
 import unittest
 
-from helper import EVEN, LARGEST, PARTING, ask, begin, colours_seen, last, mean, piece
-from throughwindows.handlers import answer_begin, answer_piece
-from throughwindows.pictures import Desk
+from helper import EVEN, FIND, LARGEST, PARTING, ask, begin, colours_seen, cut, last, mean, piece, shift
 
 WRONG_SIDES = [(0, 1), (1, 0), (0, 0), (17, 1), (1, 17), (17, 17), (LARGEST, 1), (1, LARGEST)]
 
@@ -88,37 +86,39 @@ class Piece(unittest.TestCase):
             self.assertEqual(colours_seen([good, bad], 2, 2), [10, 20, 30, 40])
 
 
-def kept(picture):
-    return (picture.w, picture.h, picture.colours)
-
-
 class KeptAside(unittest.TestCase):
-    """No call of 1 to 7 shows the piece, so the desk itself is looked at."""
+    """What the piece is, as find and shift show it."""
+
+    picture = begin(3, 3, [10, 20, 30, 40, 50, 60, 70, 80, 90])
 
     def test_at_the_beginning_one_pixel_of_colour_0(self):
-        self.assertEqual(kept(Desk().piece), (1, 1, [0]))
+        self.assertEqual(ask(FIND, shift(8)), [[0, 0, 0], [0, 0, 0, 0, 1]])
+        self.assertEqual(last(self.picture, FIND), [100, 0, 0])
+        self.assertEqual(last(self.picture, shift(8)), [0, 0, 0, 100, 1])
 
     def test_piece_sets_it(self):
-        desk = Desk()
-        answer_begin(desk, 2, 1, [5, 6])
-        answer_piece(desk, 1, 3, [7, 8, 9])
-        self.assertEqual(kept(desk.piece), (1, 3, [7, 8, 9]))
-        self.assertEqual(kept(desk.picture), (2, 1, [5, 6]))
+        self.assertEqual(last(self.picture, piece(2, 2, [50, 60, 80, 90]), FIND), [0, 1, 1])
+        self.assertEqual(last(self.picture, piece(1, 3, [20, 50, 82]), FIND), [4, 1, 0])
+        self.assertEqual(last(self.picture, piece(3, 1, [40, 50, 63]), FIND), [9, 0, 1])
+        self.assertEqual(last(self.picture, piece(4, 1, [0] * 4), FIND), [-3])
+        self.assertEqual(last(self.picture, piece(1, 4, [0] * 4), FIND), [-3])
+
+    def test_piece_may_come_again(self):
+        self.assertEqual(last(self.picture, piece(4, 1, [0] * 4), piece(1, 1, [81]), FIND), [1, 1, 2])
 
     def test_begin_makes_it_one_pixel_of_colour_0_again(self):
-        desk = Desk()
-        answer_piece(desk, 1, 3, [7, 8, 9])
-        answer_begin(desk, 2, 1, [5, 6])
-        self.assertEqual(kept(desk.piece), (1, 1, [0]))
+        for earlier in [piece(1, 3, [20, 50, 80]), piece(16, 16, [200] * 256), cut(1, 1, 2, 2), cut(2, 2, 1, 1)]:
+            calls = [self.picture, earlier, self.picture]
+            self.assertEqual(last(*calls, FIND), [100, 0, 0])
+            self.assertEqual(last(*calls, shift(8)), [0, 0, 0, 100, 1])
+        self.assertEqual(last(piece(2, 1, [7, 8]), begin(1, 1, [5]), FIND), [25, 0, 0])
 
     def test_a_refusal_leaves_it(self):
-        desk = Desk()
-        answer_piece(desk, 1, 3, [7, 8, 9])
-        self.assertEqual(answer_piece(desk, 17, 1, [1]), [-1])
-        self.assertEqual(answer_piece(desk, 2, 1, [1]), [-3])
-        self.assertEqual(answer_begin(desk, 0, 1, []), [-1])
-        self.assertEqual(answer_begin(desk, 1, 1, [256]), [-3])
-        self.assertEqual(kept(desk.piece), (1, 3, [7, 8, 9]))
+        calls = [self.picture, piece(1, 3, [21, 50, 82])]
+        for bad, refusal in [(piece(17, 1, [1]), -1), (piece(2, 1, [1]), -3), (piece(1, 1, [256]), -3),
+                             (begin(0, 1, []), -1), (begin(1, 1, [256]), -3), (begin(3, 3, [1] * 8), -3)]:
+            self.assertEqual(ask(*calls, bad, FIND)[2:], [[refusal], [1 + 4, 1, 0]])
+            self.assertEqual(last(*calls, bad, shift(0)), [0, 0, 0, 11 ** 2 + 10 ** 2 + 12 ** 2, 3])
 
 
 if __name__ == "__main__":

@@ -30,6 +30,8 @@ UNUSED_NAMES = """register mro elements open input version_info with_traceback a
 breakpoint compile delattr dir eval exec exit gc getattr globals hasattr help id importlib locals methodcaller os quit
 setattr super vars sys""".split()
 
+WALKERS = "list tuple dict sorted sum any all enumerate zip".split()
+
 
 def tree_of(path):
     return ast.parse(path.read_text(encoding="utf-8"))
@@ -145,6 +147,51 @@ class Language(unittest.TestCase):
             for node in nodes_of(path, ast.Call):
                 if isinstance(node.func, ast.Attribute):
                     self.assertIn(node.func.attr, METHODS)
+
+    def test_what_stands_at_a_files_top(self):
+        for path in FILES:
+            body = tree_of(path).body
+            self.assertIsInstance(ast.literal_eval(body[0].value), str)
+            for node in body[1:]:
+                self.assertIsInstance(node, (ast.ImportFrom, ast.FunctionDef, ast.ClassDef, ast.Assign))
+                if isinstance(node, ast.Assign):
+                    inner = [part for part in ast.walk(node.value) if part != node.value]
+                    self.assertFalse([part for part in inner if isinstance(part, (ast.List, ast.Dict, ast.Call))])
+
+    def test_walked_at_once(self):
+        for path in FILES:
+            allowed = [node.iter for node in nodes_of(path, ast.For, ast.comprehension)]
+            for node in nodes_of(path, ast.Call):
+                if ast.unparse(node.func) in WALKERS and node.args:
+                    allowed.append(node.args[0])
+            places = [(node.lineno, node.col_offset) for node in allowed]
+            for node in nodes_of(path, ast.Call):
+                if ast.unparse(node.func) in ("range", "zip", "enumerate", "reversed"):
+                    self.assertIn((node.lineno, node.col_offset), places, path.name)
+
+    def test_sets_stand_within_sorted_or_len(self):
+        for path in FILES:
+            within = [node.args[0] for node in nodes_of(path, ast.Call)
+                      if ast.unparse(node.func) in ("sorted", "len") and node.args and not node.keywords]
+            places = [(node.lineno, node.col_offset) for node in within]
+            for node in nodes_of(path, ast.Name):
+                if node.id in ("set", "frozenset"):
+                    self.assertIn((node.lineno, node.col_offset), places, path.name)
+
+    def test_exponents_are_written(self):
+        for path in FILES:
+            for node in nodes_of(path, ast.BinOp):
+                if isinstance(node.op, ast.Pow):
+                    self.assertIn(ast.literal_eval(node.right), range(65))
+
+    def test_no_name_is_a_method_here_and_a_value_there(self):
+        methods = [inner.name for path in FILES for node in nodes_of(path, ast.ClassDef) for inner in node.body[1:]]
+        values = [node.attr for path in FILES for node in nodes_of(path, ast.Attribute)
+                  if isinstance(node.ctx, ast.Store)]
+        for name in values:
+            self.assertNotIn(name, methods)
+            for kind in (str, int, list, dict, set, bytes, tuple):
+                self.assertFalse(hasattr(kind, name), name)
 
     def test_imports(self):
         for path in FILES:

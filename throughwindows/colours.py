@@ -1,11 +1,7 @@
-"""The colour that a pixel gets: by mean, by rank, by weights, made even."""
+"""The colour that a pixel gets (by mean, by rank, by weights, made even, parted), and the spread."""
 
+from throughwindows.ratios import rounded
 from throughwindows.windows import colours_there
-
-
-def rounded(number, divisor):
-    """The nearest whole number to number by divisor, a half up (below 0 too)."""
-    return (2 * number + divisor) // (2 * divisor)
 
 
 def mean_colour(window):
@@ -44,3 +40,13 @@ def made_even(colours):
         return list(colours)
     up_to = counts_up_to(colours)
     return [rounded(255 * (up_to[colour] - least), pixels - least) for colour in colours]
+
+
+def parted_at(colours, v):
+    """The colours of a picture, up to v made black and above it white."""
+    return [0 if colour <= v else 255 for colour in colours]
+
+
+def spread_of(colours):
+    """Of each colour there is, the least first, the colour and how many pixels have it."""
+    return [(colour, colours.count(colour)) for colour in sorted(set(colours))]

@@ -3,9 +3,10 @@
 Every refusal is told before anything is changed.
 """
 
-from throughwindows.colours import made_even, mean_colour, rank_colour, weighed_colour
+from throughwindows.colours import made_even, mean_colour, parted_at, rank_colour, spread_of, weighed_colour
+from throughwindows.fits import best_place, best_shift, is_too_large
 from throughwindows.partings import best_parting, how_far_apart
-from throughwindows.pictures import Picture, dark_pixel, repaint
+from throughwindows.pictures import Picture, cut_out, dark_pixel, repaint, row_of
 from throughwindows.windows import all_windows
 
 REACHES = {1: 0, 9: 1, 25: 2}
@@ -98,3 +99,55 @@ def answer_parting(desk):
     best = best_parting(colours)
     apart = how_far_apart(colours, best)
     return [best, apart[0], apart[1]]
+
+
+def answer_part(desk, v):
+    """Call 8: the picture is parted at v into black and white."""
+    if v > 255:
+        return [-1]
+    return [repaint(desk, parted_at(desk.picture.colours, v))]
+
+
+def answer_find(desk):
+    """Call 9: where the piece fits best."""
+    if is_too_large(desk.picture, desk.piece):
+        return [-3]
+    return best_place(desk.picture, desk.piece)
+
+
+def answer_shift(desk, r):
+    """Call 10: by which shift the piece fits best."""
+    if r > 8:
+        return [-1]
+    # A dx below 0 that came first would look like a refusal, so a 0 stands before it.
+    return [0] + best_shift(desk.picture, desk.piece, r)
+
+
+def answer_row(desk, y):
+    """Call 11: a row of the picture."""
+    if y >= desk.picture.h:
+        return [-1]
+    return [desk.picture.w] + row_of(desk.picture, y)
+
+
+def answer_spread(desk):
+    """Call 12: which colours there are, and how many pixels of each."""
+    spread = spread_of(desk.picture.colours)
+    answer = [len(spread)]
+    for colour, pixels in spread:
+        answer.append(colour)
+        answer.append(pixels)
+    return answer
+
+
+def is_within(picture, x, y, w, h):
+    """Whether such a part is not empty, and wholly within the picture."""
+    return w > 0 and h > 0 and x + w <= picture.w and y + h <= picture.h
+
+
+def answer_cut(desk, x, y, w, h):
+    """Call 13: the piece is a part of the picture."""
+    if not is_within(desk.picture, x, y, w, h):
+        return [-1]
+    desk.piece = cut_out(desk.picture, x, y, w, h)
+    return [w * h]

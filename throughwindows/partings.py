@@ -1,5 +1,7 @@
 """A picture parted into dark and light, and where the parts are furthest apart."""
 
+from throughwindows.ratios import is_more
+
 
 def how_far_apart(colours, v):
     """How far apart the parts are at v: the square, and the product that it is taken by."""
@@ -11,18 +13,13 @@ def how_far_apart(colours, v):
     return (difference * difference, len(dark) * len(light))
 
 
-def is_further(one, other):
-    """Whether one square by its product is more than the other by its own."""
-    return one[0] * other[1] > other[0] * one[1]
-
-
 def best_parting(colours):
     """The least v at which the parts are furthest apart."""
     best = 0
     furthest = how_far_apart(colours, 0)
     for v in range(1, 256):
         apart = how_far_apart(colours, v)
-        if is_further(apart, furthest):
+        if is_more(apart, furthest):
             best = v
             furthest = apart
     return best

@@ -31,3 +31,16 @@ def repaint(desk, colours):
     before = desk.picture
     desk.picture = Picture(before.w, before.h, colours)
     return len([old for old, new in zip(before.colours, colours) if old != new])
+
+
+def row_of(picture, y):
+    """The colours of row y."""
+    return picture.colours[y * picture.w:(y + 1) * picture.w]
+
+
+def cut_out(picture, x, y, w, h):
+    """The part of the picture, w by h pixels, whose first pixel is (x, y)."""
+    colours = []
+    for place in range(y, y + h):
+        colours.extend(row_of(picture, place)[x:x + w])
+    return Picture(w, h, colours)

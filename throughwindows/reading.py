@@ -1,7 +1,8 @@
 """Reading the calls out of the one list that they stand in."""
 
 # Of each call how many whole numbers it has, and how many rows behind them.
-SHAPES = {1: (2, 1), 2: (2, 1), 3: (2, 0), 4: (4, 0), 5: (4, 2), 6: (0, 0), 7: (0, 0)}
+SHAPES = {1: (2, 1), 2: (2, 1), 3: (2, 0), 4: (4, 0), 5: (4, 2), 6: (0, 0), 7: (0, 0), 8: (1, 0), 9: (0, 0),
+          10: (1, 0), 11: (1, 0), 12: (0, 0), 13: (4, 0)}
 
 
 class Call:
